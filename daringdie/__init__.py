@@ -1,0 +1,1 @@
+"""A die thrown as long as one dares."""
