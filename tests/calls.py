@@ -2,7 +2,7 @@
 
 from daringdie.race import answers
 
-DIE, SHOWS, BRINGS, NOTHING, ENDS, BEST = range(6)
+DIE, SHOWS, BRINGS, NOTHING, ENDS, BEST, THROWS, TURNS, QUICK, DUEL, ANSWER, GO = range(12)
 GREATEST = 4294967295
 
 
@@ -32,3 +32,16 @@ def ask(*calls):
 def ask_with(faces, *calls):
     """The same, about a die with so many faces."""
     return ask((DIE, faces, 10), *calls)[1:]
+
+
+def ask_in_race(faces, goal, *calls):
+    """What each of the calls is answered, about a die and a goal; a line has at most five such calls."""
+    told = []
+    for place in range(0, len(calls), 5):
+        told += ask((DIE, faces, goal), *calls[place:place + 5])[1:]
+    return told
+
+
+def go(*faces):
+    """The call go with these faces."""
+    return (GO, len(faces)) + faces

@@ -1,29 +1,8 @@
 import unittest
-from fractions import Fraction
-from functools import lru_cache
 
 from daringdie.turn import lowest
-from calls import BEST, BRINGS, ENDS, GREATEST, NOTHING, SHOWS, ask, ask_with
-
-
-@lru_cache(maxsize=None)
-def thrown(faces, hold):
-    """The chances of all that a turn brings, 0 too, found throw by throw."""
-    under_way = {0: Fraction(1)}
-    ended = {}
-    while under_way:
-        further = {}
-        for total, chance in under_way.items():
-            for face in range(1, faces + 1):
-                reached = 0 if face == 1 else total + face
-                place = ended if face == 1 or reached >= hold else further
-                place[reached] = place.get(reached, 0) + chance / faces
-        under_way = further
-    return ended
-
-
-def pair(fraction):
-    return [fraction.numerator, fraction.denominator]
+from calls import BEST, BRINGS, ENDS, GREATEST, NOTHING, SHOWS, THROWS, ask, ask_with
+from chances import pair, turn
 
 
 def average(chances):
@@ -44,13 +23,13 @@ class LowestTest(unittest.TestCase):
 
 class HoldRangeTest(unittest.TestCase):
     def test_wrong_numbers_are_refused(self):
-        for call in (BRINGS, NOTHING, ENDS, BEST):
+        for call in (BRINGS, NOTHING, ENDS, BEST, THROWS):
             for number in (0, 101, GREATEST):
                 with self.subTest(call=call, number=number):
                     self.assertEqual(ask((call, number), (SHOWS,)), [[-1], [6, 10]])
 
     def test_edges_are_answered(self):
-        for call in (BRINGS, NOTHING, ENDS, BEST):
+        for call in (BRINGS, NOTHING, ENDS, BEST, THROWS):
             for number in (1, 100):
                 with self.subTest(call=call, number=number):
                     self.assertGreater(len(ask((call, number))[0]), 2)
@@ -92,23 +71,47 @@ class HandWorkedTest(unittest.TestCase):
         self.check(10, 3, [148, 25], [11, 100], twice)
 
 
+class ThrowsTest(unittest.TestCase):
+    def check(self, faces, *throws):
+        """With h of 1, 2 and so on."""
+        told = ask_with(faces, *[(THROWS, hold + 1) for hold in range(len(throws))])
+        self.assertEqual(told, [[0] + average for average in throws])
+
+    def test_two_faces(self):
+        self.check(2, [1, 1], [1, 1], [3, 2], [3, 2], [7, 4], [7, 4], [15, 8])
+        self.assertEqual(ask_with(2, (THROWS, 100)), [[0, 2 ** 50 - 1, 2 ** 49]])
+
+    def test_three_faces(self):
+        self.check(3, [1, 1], [1, 1], [4, 3], [5, 3], [16, 9], [2, 1])
+
+    def test_six_faces(self):
+        self.check(6, [1, 1], [1, 1], [7, 6], [4, 3], [55, 36])
+
+    def test_ten_faces(self):
+        self.check(10, [1, 1], [1, 1], [11, 10], [6, 5], [131, 100])
+
+    def test_a_line_begins_with_six_faces(self):
+        self.assertEqual(ask((THROWS, 3)), [[0, 7, 6]])
+
+
 class EveryTurnTest(unittest.TestCase):
-    def test_brings_nothing_and_ends(self):
+    def test_brings_nothing_ends_and_throws(self):
         for faces in range(2, 11):
             for hold in range(1, 101):
                 with self.subTest(faces=faces, hold=hold):
-                    chances = thrown(faces, hold)
-                    told = ask_with(faces, (BRINGS, hold), (NOTHING, hold), (ENDS, hold))
+                    chances, throws = turn(faces, hold)
+                    told = ask_with(faces, (BRINGS, hold), (NOTHING, hold), (ENDS, hold), (THROWS, hold))
                     self.assertEqual(told[0], [0] + pair(average(chances)))
                     self.assertEqual(told[1], [0] + pair(chances[0]))
                     ends = [len(chances) - 1]
                     for total in sorted(chances)[1:]:
                         ends += [total] + pair(chances[total])
                     self.assertEqual(told[2], ends)
+                    self.assertEqual(told[3], [0] + pair(throws))
 
     def test_best(self):
         for faces in range(2, 11):
-            averages = [average(thrown(faces, hold)) for hold in range(1, 101)]
+            averages = [average(turn(faces, hold)[0]) for hold in range(1, 101)]
             for most in range(1, 101):
                 with self.subTest(faces=faces, most=most):
                     highest = max(averages[:most])
